@@ -1,0 +1,1 @@
+"""A device asked for bits and registers."""
