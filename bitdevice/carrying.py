@@ -2,20 +2,19 @@
 
 from bitdevice.device import COILS, KEPT, REFUSALS, WENT_WELL
 from bitdevice.forms import CLEAR_COUNTS, COIL_ON, ECHO, FIRST_COUNT, NO_REASON, reason_against, table_read_by
-from bitdevice.packing import bits_of_bytes, bytes_of_bits, bytes_of_numbers, number_at, numbers_of_bytes
+from bitdevice.packing import bits_of_bytes, bytes_of_bits, bytes_of_numbers, counted, number_at, numbers_of_bytes
 
 UNCOUNTED = (8, 11)
 
 
 def read_bits(device, request):
     bits = device.row_at(table_read_by(request[0]), number_at(request, 1), number_at(request, 3))
-    row = bytes_of_bits(bits)
-    return [request[0], len(row)] + row
+    return [request[0]] + counted(bytes_of_bits(bits))
 
 
 def answer_with_numbers(device, request, table):
-    row = bytes_of_numbers(device.row_at(table, number_at(request, 1), number_at(request, 3)))
-    return [request[0], len(row)] + row
+    numbers = device.row_at(table, number_at(request, 1), number_at(request, 3))
+    return [request[0]] + counted(bytes_of_numbers(numbers))
 
 
 def read_numbers(device, request):

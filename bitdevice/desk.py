@@ -1,12 +1,13 @@
 """Calls on one device, as they stand in a list, and what is answered to them."""
 
+from bitdevice.asking import ask, read
 from bitdevice.carrying import carry_out
 from bitdevice.device import Device, OUT_OF_RANGE
-from bitdevice.framings import answer_ascii, answer_rtu
+from bitdevice.framings import answer_ascii, answer_rtu, answer_tcp
+from bitdevice.packing import counted
+from bitdevice.sums import crc, lrc
 
-
-def counted(row):
-    return [len(row)] + row
+MOST_SUMMED = 65536
 
 
 def call_begin(device, numbers, rows):
@@ -39,10 +40,66 @@ def call_ascii(device, numbers, rows):
     return counted(answer_ascii(device, rows[0]))
 
 
-# How many whole numbers and how many rows a call has, by the call's number.
-SHAPES = {0: (5, 0), 1: (3, 0), 2: (2, 0), 3: (0, 1), 4: (0, 1), 5: (0, 1)}
+def call_tcp(device, numbers, rows):
+    if len(rows[0]) > 260:
+        return [OUT_OF_RANGE]
+    return counted(answer_tcp(device, rows[0]))
 
-CALLS = {0: call_begin, 1: call_set, 2: call_get, 3: call_pdu, 4: call_rtu, 5: call_ascii}
+
+def call_counts(device, numbers, rows):
+    return [0] + device.tallies
+
+
+def call_crc(device, numbers, rows):
+    if len(rows[0]) > MOST_SUMMED:
+        return [OUT_OF_RANGE]
+    return [crc(rows[0])]
+
+
+def call_lrc(device, numbers, rows):
+    if len(rows[0]) > MOST_SUMMED:
+        return [OUT_OF_RANGE]
+    return [lrc(rows[0])]
+
+
+def call_ask(device, numbers, rows):
+    return ask(numbers[0], numbers[1], numbers[2], rows[0])
+
+
+def call_read(device, numbers, rows):
+    return read(rows[0], rows[1])
+
+
+# How many whole numbers and how many rows a call has, by the call's number.
+SHAPES = {
+    0: (5, 0),
+    1: (3, 0),
+    2: (2, 0),
+    3: (0, 1),
+    4: (0, 1),
+    5: (0, 1),
+    6: (0, 1),
+    7: (0, 0),
+    8: (0, 1),
+    9: (0, 1),
+    10: (3, 1),
+    11: (0, 2),
+}
+
+CALLS = {
+    0: call_begin,
+    1: call_set,
+    2: call_get,
+    3: call_pdu,
+    4: call_rtu,
+    5: call_ascii,
+    6: call_tcp,
+    7: call_counts,
+    8: call_crc,
+    9: call_lrc,
+    10: call_ask,
+    11: call_read,
+}
 
 
 def rows_from(calls, at, many):

@@ -10,6 +10,13 @@ WRONG_FORM = 3
 
 COIL_ON = 0xFF00
 
+MOST_BITS_READ = 2000
+MOST_NUMBERS_READ = 125
+MOST_COILS_WRITTEN = 1968
+MOST_KEPT_WRITTEN = 123
+# Fewer than by 16: the request has places to read as well.
+MOST_KEPT_WRITTEN_AND_READ = 121
+
 ECHO = 0
 CLEAR_COUNTS = 10
 FIRST_COUNT = 11
@@ -17,11 +24,11 @@ LAST_COUNT = 15
 
 
 def is_read_of_bits(request):
-    return len(request) == 5 and 1 <= number_at(request, 3) <= 2000
+    return len(request) == 5 and 1 <= number_at(request, 3) <= MOST_BITS_READ
 
 
 def is_read_of_numbers(request):
-    return len(request) == 5 and 1 <= number_at(request, 3) <= 125
+    return len(request) == 5 and 1 <= number_at(request, 3) <= MOST_NUMBERS_READ
 
 
 def is_write_of_coil(request):
@@ -48,21 +55,23 @@ def is_write_of_coils(request):
     if len(request) < 6:
         return False
     many = number_at(request, 3)
-    return 1 <= many <= 1968 and ends_with_row(request, 5, bytes_for_bits(many))
+    return 1 <= many <= MOST_COILS_WRITTEN and ends_with_row(request, 5, bytes_for_bits(many))
 
 
 def is_write_of_kept_row(request):
     if len(request) < 6:
         return False
     many = number_at(request, 3)
-    return 1 <= many <= 123 and ends_with_row(request, 5, many * 2)
+    return 1 <= many <= MOST_KEPT_WRITTEN and ends_with_row(request, 5, many * 2)
 
 
 def is_write_and_read(request):
     if len(request) < 10:
         return False
+    if not 1 <= number_at(request, 3) <= MOST_NUMBERS_READ:
+        return False
     written = number_at(request, 7)
-    if not (1 <= number_at(request, 3) <= 125 and 1 <= written <= 121):
+    if not 1 <= written <= MOST_KEPT_WRITTEN_AND_READ:
         return False
     return ends_with_row(request, 9, written * 2)
 
@@ -101,6 +110,11 @@ def is_known(request):
     return request[0] in FORMS
 
 
+def has_right_form(request):
+    """Asked of known functions alone."""
+    return FORMS[request[0]](request)
+
+
 def table_read_by(function):
     return {1: COILS, 2: INPUTS, 3: KEPT, 4: READ_ONLY}[function]
 
@@ -129,7 +143,7 @@ def spans_of(request):
 def reason_against(device, request):
     if not is_known(request):
         return NO_SUCH_FUNCTION
-    if not FORMS[request[0]](request):
+    if not has_right_form(request):
         return WRONG_FORM
     for span in spans_of(request):
         if not device.has_places(span[0], span[1], span[2]):

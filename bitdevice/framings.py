@@ -2,11 +2,13 @@
 
 from bitdevice.carrying import carry_out
 from bitdevice.device import FRAMES_FOR_ALL, FRAMES_FOR_IT, FRAMES_RIGHT, FRAMES_WRONG
-from bitdevice.packing import bytes_of_numbers
+from bitdevice.packing import bytes_of_numbers, number_at
 from bitdevice.sums import crc, lrc
 
 FOR_ALL = 0
 CARRIED_OUT_FOR_ALL = (5, 6, 15, 16, 22)
+# Over a net the address has found the device already, so these numbers mean it, too.
+ANY_DEVICE = (0, 255)
 
 COLON = 58
 LINE_END = (13, 10)
@@ -94,3 +96,20 @@ def answer_ascii(device, signs):
     if answer == []:
         return []
     return ascii_frame([row[0]] + answer)
+
+
+def is_tcp_frame(frame):
+    return len(frame) >= 8 and frame[2:4] == [0, 0] and number_at(frame, 4) == len(frame) - 6
+
+
+def answer_tcp(device, frame):
+    if not is_tcp_frame(frame):
+        device.tally(FRAMES_WRONG)
+        return []
+    device.tally(FRAMES_RIGHT)
+    unit = frame[6]
+    if unit != device.unit and unit not in ANY_DEVICE:
+        return []
+    device.tally(FRAMES_FOR_IT)
+    body = [unit] + carry_out(device, frame[7:])
+    return frame[:4] + bytes_of_numbers([len(body)]) + body

@@ -17,6 +17,10 @@ def numbers_of_bytes(row):
     return [number_at(row, k) for k in range(0, len(row), 2)]
 
 
+def counted(row):
+    return [len(row)] + row
+
+
 def bytes_for_bits(many):
     return (many + 7) // 8
 

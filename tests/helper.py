@@ -31,6 +31,30 @@ def line(text):
     return [5, len(text)] + [ord(sign) for sign in text]
 
 
+def tcp(row):
+    return [6, len(row)] + list(row)
+
+
+def counts():
+    return [7]
+
+
+def crc(row):
+    return [8, len(row)] + list(row)
+
+
+def lrc(row):
+    return [9, len(row)] + list(row)
+
+
+def ask(function, at, count, values=()):
+    return [10, function, at, count, len(values)] + list(values)
+
+
+def read(row, answer):
+    return [11, len(row)] + list(row) + [len(answer)] + list(answer)
+
+
 def two(number):
     return [number // 256, number % 256]
 
@@ -65,6 +89,10 @@ def ascii_text(unit, row):
     body = [unit] + list(row)
     body.append(-sum(body) % 256)
     return ":" + "".join(f"{part:02X}" for part in body) + "\r\n"
+
+
+def tcp_frame(unit, row, handed_back=(0x12, 0x34)):
+    return list(handed_back) + [0, 0] + two(len(row) + 1) + [unit] + list(row)
 
 
 def take_apart(given):

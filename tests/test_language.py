@@ -75,6 +75,25 @@ class Language(unittest.TestCase):
                         self.assertIsNone(alias.asname, path)
                         self.assertRegex(defined, rf"(?m)^(def |class )?{alias.name}( =|\(|:)")
 
+    def test_no_two_files_draw_from_one_another(self):
+        drawn = {
+            path.stem: {node.module.split(".")[1] for node in nodes_of(path) if isinstance(node, ast.ImportFrom)}
+            for path in FILES
+        }
+        while drawn:
+            free = [name for name, others in drawn.items() if not others & set(drawn)]
+            self.assertTrue(free, drawn)
+            for name in free:
+                drawn.pop(name)
+
+    def test_no_name_is_an_import_of_its_file_too(self):
+        for path in FILES:
+            nodes = nodes_of(path)
+            drawn = {alias.name for node in nodes if isinstance(node, ast.ImportFrom) for alias in node.names}
+            given = {node.id for node in nodes if isinstance(node, ast.Name) and isinstance(node.ctx, ast.Store)}
+            given |= {node.arg for node in nodes if isinstance(node, ast.arg)}
+            self.assertEqual(drawn & given, set(), path)
+
     def test_names(self):
         for path in FILES:
             for node in nodes_of(path):
